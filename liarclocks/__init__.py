@@ -1,0 +1,1 @@
+"""Readings, clocks and words kept together among liars."""
