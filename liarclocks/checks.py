@@ -1,8 +1,9 @@
 """What several parts of the program ask of the things that are handed in."""
 
-from liarclocks.errors import BadNumber, BadWorths
+from liarclocks.errors import BadHouses, BadNumber, BadWorths
 
 FARTHEST = 1000000
+LAST_BEAT = 100000
 MOST_FEW = 5
 MOST_WORTHS = 40
 
@@ -37,15 +38,44 @@ def is_fit_list(things):
     return isinstance(things, list) and 1 <= len(things) <= MOST_WORTHS
 
 
+def is_house(thing, houses):
+    """Whether a thing is one of so many houses."""
+    return is_within(thing, 0, houses - 1)
+
+
+def is_rising(numbers):
+    """Whether each number is above the one ahead of it."""
+    return all([ahead < number for ahead, number in zip(numbers, numbers[1:])])
+
+
 def check_within(thing, least, most):
     """Refuse what is no whole number from the least to the most."""
     if not is_within(thing, least, most):
         raise BadNumber(f"not a whole number from {least} to {most}")
 
 
+def check_number(thing):
+    """Refuse what is no number, as the document bounds them."""
+    check_within(thing, -FARTHEST, FARTHEST)
+
+
 def check_few(few):
     """Refuse what is no few."""
     check_within(few, 0, MOST_FEW)
+
+
+def check_beat(beat):
+    """Refuse what is no beat."""
+    check_within(beat, 0, LAST_BEAT)
+
+
+def check_some_houses(some, houses, most):
+    """Refuse what is no list or tuple of at most so many of the houses, rising, each once."""
+    if not isinstance(some, (list, tuple)) or len(some) > most:
+        raise BadHouses("not a list or tuple of houses, or too many of them")
+    # Things of any kind can't be held against one another, so rising comes behind this.
+    if not all([is_house(house, houses) for house in some]) or not is_rising(some):
+        raise BadHouses("not houses, rising, each once")
 
 
 def check_worths(worths):

@@ -1,6 +1,6 @@
 """Finds where a file of the package leaves the part of Python that the program keeps to.
 
-It sees the rules that can be read off one file; the others are for the reader.
+It sees the rules that can be read off one file, and some of all files together; the others are for the reader.
 """
 
 import ast
@@ -24,6 +24,9 @@ UNUSED_WORDS = re.compile(
     r"|NamedTuple|TypedDict|TYPE_CHECKING|abstractmethod)\b|dataclass|overload|contextmanager")
 
 DOUBLE_METHODS = {"__init__", "__eq__", "__repr__", "__str__", "__len__"}
+
+# Methods and values may be called so, though Python's own values have such methods.
+LIKE_PYTHON = set("count index title find get join lower upper split strip copy add".split())
 
 UNUSED_FORMS = (
     ast.With, ast.Match, ast.Global, ast.Nonlocal, ast.Yield, ast.YieldFrom, ast.Await, ast.AsyncFunctionDef,
@@ -90,7 +93,8 @@ def faults_of_def(node):
         yield "L10 def too long"
     if node.decorator_list or node.args.vararg or node.args.kwarg or node.args.posonlyargs:
         yield "L4 a parameter or decorator that is not used"
-    if any(isinstance(default, (ast.List, ast.Dict, ast.Call)) for default in node.args.defaults):
+    defaults = node.args.defaults + node.args.kw_defaults
+    if any(isinstance(default, (ast.List, ast.Dict, ast.Call)) for default in defaults):
         yield "L4 a default that is no plain value"
 
 
@@ -145,6 +149,40 @@ def faults_of_names(node):
                 yield f"L8 the name {name}"
             if not isinstance(getattr(node, "ctx", None), ast.Load):
                 yield f"L15 the name {name} is given another meaning"
+
+
+def methods_of(trees):
+    """The names of all methods of the package."""
+    classes = [node for tree in trees for node in tree.body if isinstance(node, ast.ClassDef)]
+    return {row.name for node in classes for row in node.body if isinstance(row, ast.FunctionDef)}
+
+
+def attributes_of(trees, form):
+    """The names that are given to objects (ast.Store) or asked of them (ast.Load) anywhere in the package."""
+    nodes = [node for tree in trees for node in ast.walk(tree) if isinstance(node, ast.Attribute)]
+    return {node.attr for node in nodes if isinstance(node.ctx, form)}
+
+
+def called_of(trees):
+    """The names that are called as methods anywhere in the package."""
+    calls = [node for tree in trees for node in ast.walk(tree) if isinstance(node, ast.Call)]
+    return {call.func.attr for call in calls if isinstance(call.func, ast.Attribute)}
+
+
+def faults_together(sources):
+    """What is wrong with methods and values of all files of the package together."""
+    trees = [ast.parse(source) for source in sources]
+    methods, given = methods_of(trees), attributes_of(trees, ast.Store)
+    found = [f"L18 {name} is a method and a value" for name in methods & given]
+    asked = attributes_of(trees, ast.Load) - called_of(trees)
+    found += [f"L18 {name} is asked and given nowhere" for name in asked - given]
+    found += [f"L26 {name} is Python's own" for name in (methods | given) - DOUBLE_METHODS if is_of_python(name)]
+    return sorted(found)
+
+
+def is_of_python(name):
+    """Whether Python's own values have a method or a value so called that is not free for others."""
+    return name not in LIKE_PYTHON and any(hasattr(kind, name) for kind in (str, int, list, dict, set, bytes, tuple))
 
 
 def is_docstring(row):

@@ -2,7 +2,7 @@ import ast
 import pathlib
 import unittest
 
-from language import faults
+from language import faults, faults_together
 
 PACKAGE = pathlib.Path(__file__).resolve().parent.parent / "liarclocks"
 
@@ -22,6 +22,7 @@ OUTSIDE = (
     "class Box:\n    many = 1\n",
     "def f(*args):\n    return 1\n",
     "def f(x=[]):\n    return x\n",
+    "def f(*, x=[]):\n    return x\n",
     "def f(x):\n    return x / 2\n",
     "def f(x):\n    return sum(y for y in x)\n",
     "def f(x):\n    return f'{x:3}'\n",
@@ -35,6 +36,13 @@ OUTSIDE = (
     "def f(x):\n    return max(*x)\n",
     "from liarclocks.worths import middle\ndef f(middle):\n    return 1\n",
     "def f():\n" + "    x = 1\n" * 40 + "    return 1\n",
+)
+
+TOGETHER = (
+    ("class A:\n    def far(self):\n        return 1\n", "class B:\n    def __init__(self):\n        self.far = 1\n"),
+    ("class A:\n    def __init__(self):\n        self.far = 1\n", "def f(x):\n    return x.near\n"),
+    ("class A:\n    def decode(self):\n        return 1\n",),
+    ("class A:\n    def __init__(self):\n        self.real = 1\n",),
 )
 
 
@@ -73,6 +81,14 @@ class Language(unittest.TestCase):
         for source in OUTSIDE:
             with self.subTest(source[:60]):
                 self.assertTrue(faults(source, "liarclocks"))
+
+    def test_all_files_together_keep_to_the_language(self):
+        self.assertEqual(faults_together([path.read_text("utf-8") for path in files()]), [])
+
+    def test_what_leaves_the_language_together_is_found(self):
+        for sources in TOGETHER:
+            with self.subTest(sources):
+                self.assertTrue(faults_together(sources))
 
     def test_what_keeps_to_the_language_is_not_found(self):
         source = '"""Words."""\n\nfrom liarclocks.errors import BadNumber\n\nMOST = -5\n\n\n' \
