@@ -135,6 +135,13 @@ class LiarsFound(unittest.TestCase):
         track.see(2, [(0, 9), (50, 60), (0, 9), (0, 9), (70, 80)])
         self.assertEqual(track.liars_found(), [1, 4])
 
+    def test_more_than_few_may_be_caught_in_all(self):
+        # Refused is alone what leaves nothing fused, or nothing in common.
+        track = Track(few=1, speed=0)
+        track.see(0, [(4, 6), (4, 6)])
+        self.assertEqual(track.see(1, [(0, 0), (10, 10)]), (4, 6))
+        self.assertEqual(track.liars_found(), [0, 1])
+
     def test_rising_beyond_ten(self):
         track = Track(few=5, speed=0)
         spans = [(5, 9)] * 40
