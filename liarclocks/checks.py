@@ -1,10 +1,11 @@
 """What several parts of the program ask of the things that are handed in."""
 
-from liarclocks.errors import BadHouses, BadNumber, BadWorths
+from liarclocks.errors import BadHouses, BadNumber, BadWorths, NoHouse
 
 FARTHEST = 1000000
 LAST_BEAT = 100000
 MOST_FEW = 5
+MOST_HOUSES = 16
 MOST_WORTHS = 40
 
 
@@ -69,6 +70,11 @@ def check_beat(beat):
     check_within(beat, 0, LAST_BEAT)
 
 
+def check_houses(houses):
+    """Refuse what is no number of houses."""
+    check_within(houses, 1, MOST_HOUSES)
+
+
 def check_some_houses(some, houses, most):
     """Refuse what is no list or tuple of at most so many of the houses, rising, each once."""
     if not isinstance(some, (list, tuple)) or len(some) > most:
@@ -76,6 +82,19 @@ def check_some_houses(some, houses, most):
     # Things of any kind can't be held against one another, so rising comes behind this.
     if not all([is_house(house, houses) for house in some]) or not is_rising(some):
         raise BadHouses("not houses, rising, each once")
+
+
+def check_house(house, houses):
+    """Refuse what is none of so many houses."""
+    if not is_house(house, houses):
+        raise NoHouse(house)
+
+
+def check_honest(house, houses, liars):
+    """Refuse what is no house, or a liar."""
+    check_house(house, houses)
+    if house in liars:
+        raise NoHouse(house)
 
 
 def check_worths(worths):

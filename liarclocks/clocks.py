@@ -38,6 +38,12 @@ class Clock:
         check_within(many, -FARTHEST_TURN, FARTHEST_TURN)
         self.turned += many
 
+    def set_to(self, reading, beat):
+        """Turn the clock, however far it is, so that it shows a reading at a beat, and tell by how much."""
+        step = reading - self.shows(beat)
+        self.turned += step
+        return step
+
     def beat_of(self, reading):
         """The first beat at which the clock shows a reading or more; None, if it does not in time."""
         check_within(reading, -FARTHEST_READING, FARTHEST_READING)

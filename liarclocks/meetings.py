@@ -1,11 +1,10 @@
 """Houses whose numbers come nearer round by round, though some of them lie."""
 
-from liarclocks.checks import MOST_FEW, check_few, check_some_houses, check_within, check_worths
-from liarclocks.checks import is_house, is_number, is_pair
-from liarclocks.errors import BadHouses, BadLies, NoHouse
+from liarclocks.checks import MOST_FEW, MOST_HOUSES, check_few, check_honest, check_some_houses, check_within
+from liarclocks.checks import check_worths, is_house, is_number, is_pair
+from liarclocks.errors import BadHouses, BadLies
 from liarclocks.worths import middle, spread
 
-MOST_HOUSES = 16
 MOST_APART = 2000000
 MOST_APART_STUCK = 1000000
 
@@ -60,8 +59,7 @@ class Meeting:
 
     def number(self, house):
         """The number of an honest house."""
-        if not is_house(house, len(self.numbers)) or house in self.liars:
-            raise NoHouse(house)
+        check_honest(house, len(self.numbers), self.liars)
         return self.numbers[house]
 
     def numbers_now(self):

@@ -3,18 +3,32 @@
 from liarclocks.checks import check_few, check_some_left, check_worths, is_whole
 
 
+def without_ends(worths, few):
+    """The numbers, rising, without the few least and the few greatest, of what needs no look."""
+    return sorted(worths)[few:len(worths) - few]
+
+
+def half_way(left):
+    """Half of the sum of the first and the last number, rounded down."""
+    return (left[0] + left[-1]) // 2
+
+
+def how_far(worths):
+    """How far the greatest number is from the least, of what needs no look."""
+    return max(worths) - min(worths)
+
+
 def trimmed(worths, *, few):
     """The numbers, rising, without the few least and the few greatest."""
     check_few(few)
     check_worths(worths)
     check_some_left(len(worths), few)
-    return sorted(worths)[few:len(worths) - few]
+    return without_ends(worths, few)
 
 
 def middle(worths, *, few):
     """Half of the sum of the least and the greatest number left, rounded down."""
-    left = trimmed(worths, few=few)
-    return (left[0] + left[-1]) // 2
+    return half_way(trimmed(worths, few=few))
 
 
 def mean(worths, *, few):
@@ -32,7 +46,7 @@ def median(worths):
 def spread(worths):
     """How far the greatest number is from the least."""
     check_worths(worths)
-    return max(worths) - min(worths)
+    return how_far(worths)
 
 
 def is_between(worth, worths):
