@@ -320,7 +320,7 @@ class RefusedWhenMade(unittest.TestCase):
             self.refused(BadHouses, 1, few=few, liars=None)
 
     def test_no_liars(self):
-        for liars in NO_ROW + ([7], [-1], [0, 0], [1, 0], [0, 1, 2], [True], [None], ["0"], [[0]], [10 ** 5000], (0, "")):
+        for liars in NO_ROW + ([7], [-1], [0, 0], [1, 0], [0, 1, 2], [True], [None], ["0"], [[0]], [10 ** 5000], (9,)):
             self.refused(BadHouses, 7, few=2, liars=liars)
         self.refused(BadHouses, 4, few=0, liars=[0])
 
